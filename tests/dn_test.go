@@ -4,7 +4,6 @@ import (
 	"slices"
 	"strings"
 	"testing"
-	"unsafe"
 
 	"loop.example/g00402/impl"
 )
@@ -517,9 +516,7 @@ func TestDnJoinErrors(t *testing.T) {
 }
 
 func shareRdns(a []impl.Rdn, b []impl.Rdn) bool {
-	first, second := uintptr(unsafe.Pointer(unsafe.SliceData(a))), uintptr(unsafe.Pointer(unsafe.SliceData(b)))
-	size := unsafe.Sizeof(impl.Rdn{})
-	if first < second+uintptr(cap(b))*size && second < first+uintptr(cap(a))*size {
+	if shareLists(a, b) {
 		return true
 	}
 	for _, x := range a {
